@@ -7,7 +7,7 @@ func Kernel(f api.Field, k []float32, side int) (api.Field, api.Errno) {
 	if e := Check(f); e != api.OK {
 		return api.Field{}, e
 	}
-	if !within(side, 1, api.MaxKernel) || side%2 == 0 {
+	if !Within(side, 1, api.MaxKernel) || side%2 == 0 {
 		return api.Field{}, api.ErrRange
 	}
 	if len(k) != side*side {
@@ -33,7 +33,7 @@ func Blur(f api.Field, radius int) (api.Field, api.Errno) {
 	if e := Check(f); e != api.OK {
 		return api.Field{}, e
 	}
-	if !within(radius, 0, api.MaxRadius) {
+	if !Within(radius, 0, api.MaxRadius) {
 		return api.Field{}, api.ErrRange
 	}
 	return around(f, radius, func(values []float32) float32 {
@@ -50,7 +50,7 @@ func around(f api.Field, radius int, of func(values []float32) float32) (api.Fie
 	side := 2*radius + 1
 	values := make([]float32, side*side)
 	return byPlace(r, func(x, y int) float32 {
-		first := index(f.Region, x-radius, y-radius)
+		first := Index(f.Region, x-radius, y-radius)
 		for row := range side {
 			copy(values[row*side:(row+1)*side], f.V[first+row*f.W:])
 		}

@@ -15,7 +15,7 @@ func Bilinear(f api.Field, x, y float32) (float32, api.Errno) {
 	if !isNear(x) || !isNear(y) {
 		return 0, api.ErrPlace
 	}
-	i, j := floor(x), floor(y)
+	i, j := Floor(x), Floor(y)
 	v, there := between(f, int(i), int(j), x-i, y-j)
 	if !there {
 		return 0, api.ErrPlace
@@ -38,20 +38,20 @@ func between(f api.Field, i, j int, s, t float32) (float32, bool) {
 	if !Inside(need, f.Region) {
 		return 0, false
 	}
-	at := index(f.Region, i, j)
+	at := Index(f.Region, i, j)
 	p := along(f.V[at:], s)
 	if t == 0 {
 		return p, true
 	}
 	q := along(f.V[at+f.W:], s)
-	return mix(p, q, t), true
+	return Mix(p, q, t), true
 }
 
 func along(row []float32, s float32) float32 {
 	if s == 0 {
 		return row[0]
 	}
-	return mix(row[0], row[1], s)
+	return Mix(row[0], row[1], s)
 }
 
 // Resample is described in doc/01-field.md, P7.
@@ -62,13 +62,13 @@ func Resample(f api.Field, r api.Region, num, den int) (api.Field, api.Errno) {
 	if e := CheckRegion(r); e != api.OK {
 		return api.Field{}, e
 	}
-	if !within(num, 1, maxRatio) || !within(den, 1, maxRatio) {
+	if !Within(num, 1, maxRatio) || !Within(den, 1, maxRatio) {
 		return api.Field{}, api.ErrRange
 	}
 	missing := false
 	g, e := byPlace(r, func(x, y int) float32 {
-		i, s := divide(x*num, den)
-		j, t := divide(y*num, den)
+		i, s := Divide(x*num, den)
+		j, t := Divide(y*num, den)
 		v, there := between(f, i, j, s, t)
 		missing = missing || !there
 		return v
@@ -77,14 +77,4 @@ func Resample(f api.Field, r api.Region, num, den int) (api.Field, api.Errno) {
 		return api.Field{}, api.ErrPlace
 	}
 	return g, e
-}
-
-// divide rounds the quotient down, where Go's division rounds towards 0; share is the rest, as a part of b.
-func divide(a, b int) (quotient int, share float32) {
-	quotient, rest := a/b, a%b
-	if rest < 0 {
-		quotient--
-		rest += b
-	}
-	return quotient, float32(rest) / float32(b)
 }

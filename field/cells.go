@@ -103,8 +103,5 @@ func Blend(a, b, w api.Field) (api.Field, api.Errno) {
 			return api.Field{}, api.ErrRange
 		}
 	}
-	return byCell(a.Region, func(i int) float32 { return mix(a.V[i], b.V[i], w.V[i]) })
+	return byCell(a.Region, func(i int) float32 { return Mix(a.V[i], b.V[i], w.V[i]) })
 }
-
-// mix does not give b for the share 1 where the difference is rounded; the document wants it so.
-func mix(a, b, share float32) float32 { return a + float32((b-a)*share) }

@@ -34,10 +34,10 @@ func At(f api.Field, x, y int) (float32, api.Errno) {
 	if e := Check(f); e != api.OK {
 		return 0, e
 	}
-	if !within(x, f.X, f.X+f.W-1) || !within(y, f.Y, f.Y+f.H-1) {
+	if !Within(x, f.X, f.X+f.W-1) || !Within(y, f.Y, f.Y+f.H-1) {
 		return 0, api.ErrPlace
 	}
-	return f.V[index(f.Region, x, y)], api.OK
+	return f.V[Index(f.Region, x, y)], api.OK
 }
 
 // Cut is described in doc/01-field.md, P2.
@@ -51,7 +51,7 @@ func Cut(f api.Field, r api.Region) (api.Field, api.Errno) {
 	if !Inside(r, f.Region) {
 		return api.Field{}, api.ErrPlace
 	}
-	return byPlace(r, func(x, y int) float32 { return f.V[index(f.Region, x, y)] })
+	return byPlace(r, func(x, y int) float32 { return f.V[Index(f.Region, x, y)] })
 }
 
 // Paste is described in doc/01-field.md, P2.
@@ -68,7 +68,7 @@ func Paste(f, g api.Field) (api.Field, api.Errno) {
 		if Inside(cell(x, y), both) {
 			from = g
 		}
-		return from.V[index(from.Region, x, y)]
+		return from.V[Index(from.Region, x, y)]
 	})
 }
 
@@ -123,9 +123,6 @@ func height(v float32) (float32, api.Errno) {
 	}
 	return v, api.OK
 }
-
-// floor is exact: the floor of a single is a single.
-func floor(v float32) float32 { return float32(math.Floor(float64(v))) }
 
 // byCell makes a field of the values at all numbers of cells; as every field that is made, it has heights alone.
 func byCell(r api.Region, value func(i int) float32) (api.Field, api.Errno) {

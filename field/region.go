@@ -5,7 +5,7 @@ import "tarnfell/api"
 // CheckRegion is described in doc/01-field.md, P1.
 func CheckRegion(r api.Region) api.Errno {
 	switch {
-	case !within(r.W, 1, api.MaxSide) || !within(r.H, 1, api.MaxSide):
+	case !Within(r.W, 1, api.MaxSide) || !Within(r.H, 1, api.MaxSide):
 		return api.ErrRange
 	case r.W*r.H > api.MaxCells:
 		return api.ErrLarge
@@ -36,7 +36,7 @@ func Grow(r api.Region, n int) (api.Region, api.Errno) {
 	if e := CheckRegion(r); e != api.OK {
 		return api.Region{}, e
 	}
-	if !within(n, -api.MaxSide, api.MaxSide) {
+	if !Within(n, -api.MaxSide, api.MaxSide) {
 		return api.Region{}, api.ErrRange
 	}
 	wide := widen(r, n)
@@ -46,11 +46,9 @@ func Grow(r api.Region, n int) (api.Region, api.Errno) {
 	return wide, api.OK
 }
 
-func within(n, least, most int) bool { return least <= n && n <= most }
-
 // hasPlace subtracts the length from the limit, because a sum of both could pass the greatest int.
 func hasPlace(start, length int) bool {
-	return within(start, -api.MaxPlace, api.MaxPlace-length)
+	return Within(start, -api.MaxPlace, api.MaxPlace-length)
 }
 
 func widen(r api.Region, n int) api.Region {
@@ -58,5 +56,3 @@ func widen(r api.Region, n int) api.Region {
 }
 
 func cell(x, y int) api.Region { return api.Region{X: x, Y: y, W: 1, H: 1} }
-
-func index(r api.Region, x, y int) int { return (y-r.Y)*r.W + x - r.X }

@@ -78,7 +78,7 @@ func Rank(f api.Field, n int) (float32, api.Errno) {
 	if e := Check(f); e != api.OK {
 		return 0, e
 	}
-	if !within(n, 0, len(f.V)-1) {
+	if !Within(n, 0, len(f.V)-1) {
 		return 0, api.ErrRange
 	}
 	// Zeros of both signs are equal, so that only a stable order tells which of them stands at n.
@@ -95,7 +95,7 @@ func Histogram(f api.Field, low, step float32, n int) ([]int, api.Errno) {
 	if e := checkSingles(low, step); e != api.OK {
 		return nil, e
 	}
-	if step <= 0 || !within(n, 1, maxBins) {
+	if step <= 0 || !Within(n, 1, maxBins) {
 		return nil, api.ErrRange
 	}
 	counts := make([]int, n)
@@ -113,5 +113,5 @@ func bin(quotient float32, n int) int {
 	case quotient >= float32(n):
 		return n - 1
 	}
-	return int(floor(quotient))
+	return int(Floor(quotient))
 }
