@@ -13,7 +13,7 @@ func Kernel(f api.Field, k []float32, side int) (api.Field, api.Errno) {
 	if len(k) != side*side {
 		return api.Field{}, api.ErrForm
 	}
-	if e := checkSingles(k...); e != api.OK {
+	if e := CheckHeights(k...); e != api.OK {
 		return api.Field{}, e
 	}
 	return around(f, (side-1)/2, func(values []float32) float32 { return weigh(k, values) })

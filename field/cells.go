@@ -70,7 +70,7 @@ func Scale(f api.Field, m, c float32) (api.Field, api.Errno) {
 	if e := Check(f); e != api.OK {
 		return api.Field{}, e
 	}
-	if e := checkSingles(m, c); e != api.OK {
+	if e := CheckHeights(m, c); e != api.OK {
 		return api.Field{}, e
 	}
 	return byCell(f.Region, func(i int) float32 { return float32(f.V[i]*m) + c })
@@ -81,7 +81,7 @@ func Clamp(f api.Field, low, high float32) (api.Field, api.Errno) {
 	if e := Check(f); e != api.OK {
 		return api.Field{}, e
 	}
-	if e := checkSingles(low, high); e != api.OK {
+	if e := CheckHeights(low, high); e != api.OK {
 		return api.Field{}, e
 	}
 	if low > high {

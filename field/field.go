@@ -15,7 +15,7 @@ func Check(f api.Field) api.Errno {
 	if len(f.V) != f.W*f.H {
 		return api.ErrForm
 	}
-	return checkSingles(f.V...)
+	return CheckHeights(f.V...)
 }
 
 // Fill is described in doc/01-field.md, P2.
@@ -23,7 +23,7 @@ func Fill(r api.Region, h float32) (api.Field, api.Errno) {
 	if e := CheckRegion(r); e != api.OK {
 		return api.Field{}, e
 	}
-	if e := checkSingles(h); e != api.OK {
+	if e := CheckHeights(h); e != api.OK {
 		return api.Field{}, e
 	}
 	return byCell(r, func(int) float32 { return h })
@@ -34,7 +34,7 @@ func At(f api.Field, x, y int) (float32, api.Errno) {
 	if e := Check(f); e != api.OK {
 		return 0, e
 	}
-	if !Within(x, f.X, f.X+f.W-1) || !Within(y, f.Y, f.Y+f.H-1) {
+	if !Has(f.Region, x, y) {
 		return 0, api.ErrPlace
 	}
 	return f.V[Index(f.Region, x, y)], api.OK
@@ -94,17 +94,7 @@ func checkFields(fields ...api.Field) api.Errno {
 	return api.OK
 }
 
-// checkSingles looks at all values twice, because a NaN behind a value out of range comes first (G7).
-func checkSingles(values ...float32) api.Errno {
-	for _, v := range values {
-		if !isFinite(v) {
-			return api.ErrForm
-		}
-	}
-	return checkHeights(values)
-}
-
-func checkHeights(values []float32) api.Errno {
+func checkRange(values []float32) api.Errno {
 	for _, v := range values {
 		if !isHeight(v) {
 			return api.ErrRange
@@ -130,7 +120,7 @@ func byCell(r api.Region, value func(i int) float32) (api.Field, api.Errno) {
 	for i := range values {
 		values[i] = value(i)
 	}
-	if e := checkHeights(values); e != api.OK {
+	if e := checkRange(values); e != api.OK {
 		return api.Field{}, e
 	}
 	return api.Field{Region: r, V: values}, api.OK

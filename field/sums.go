@@ -92,7 +92,7 @@ func Histogram(f api.Field, low, step float32, n int) ([]int, api.Errno) {
 	if e := Check(f); e != api.OK {
 		return nil, e
 	}
-	if e := checkSingles(low, step); e != api.OK {
+	if e := CheckHeights(low, step); e != api.OK {
 		return nil, e
 	}
 	if step <= 0 || !Within(n, 1, maxBins) {

@@ -11,7 +11,7 @@ const maxNumberBytes = 100
 
 // Number is described in doc/01-field.md, P9.
 func Number(v float32) (string, api.Errno) {
-	if e := checkSingles(v); e != api.OK {
+	if e := CheckHeights(v); e != api.OK {
 		return "", e
 	}
 	return string(appendNumber(nil, v)), api.OK

@@ -22,8 +22,21 @@ func CheckWithin(v, least, most float32) api.Errno {
 	return api.OK
 }
 
+// CheckHeights looks at all values twice, because a NaN behind a value out of range comes first (G7).
+func CheckHeights(values ...float32) api.Errno {
+	for _, v := range values {
+		if !isFinite(v) {
+			return api.ErrForm
+		}
+	}
+	return checkRange(values)
+}
+
 // Floor is exact: the floor of a single is a single.
 func Floor(v float32) float32 { return float32(math.Floor(float64(v))) }
+
+// Root is right as a single, although the root of the double is rounded a second time.
+func Root(v float32) float32 { return float32(math.Sqrt(float64(v))) }
 
 // Divide rounds the quotient down, where Go's division rounds towards 0; share is the rest, as a part of b, which is above 0.
 func Divide(a, b int) (quotient int, share float32) {
@@ -40,6 +53,11 @@ func Mix(a, b, share float32) float32 { return a + float32((b-a)*share) }
 
 // Index tells where the value of the cell (x, y) of a region is.
 func Index(r api.Region, x, y int) int { return (y-r.Y)*r.W + x - r.X }
+
+// Has reports whether a region has the cell (x, y), which may lie anywhere.
+func Has(r api.Region, x, y int) bool {
+	return Within(x, r.X, r.X+r.W-1) && Within(y, r.Y, r.Y+r.H-1)
+}
 
 // Make makes the field of a region of the values at the places of its cells. Errors: that of CheckRegion; ErrRange, if a value is no height.
 func Make(r api.Region, value func(x, y int) float32) (api.Field, api.Errno) {

@@ -25,6 +25,60 @@ func TestCheckWithin(t *testing.T) {
 	}
 }
 
+// G7: CheckHeights asks all values for a NaN or an infinity first.
+func TestCheckHeights(t *testing.T) {
+	for _, s := range []struct {
+		v    []float32
+		want api.Errno
+	}{
+		{nil, api.OK}, {[]float32{top, -top, minusZero, tiny}, api.OK},
+		{[]float32{1, nan}, api.ErrForm}, {[]float32{beyond, inf}, api.ErrForm}, {[]float32{beyond, 0, -inf, -beyond}, api.ErrForm},
+		{[]float32{1, beyond}, api.ErrRange}, {[]float32{-beyond, 1}, api.ErrRange}, {[]float32{math.MaxFloat32}, api.ErrRange},
+	} {
+		if e := field.CheckHeights(s.v...); e != s.want {
+			t.Errorf("CheckHeights(%v): got %d, want %d", s.v, e, s.want)
+		}
+	}
+}
+
+// G6: Root is the nearest single.
+func TestRoot(t *testing.T) {
+	for _, s := range []struct{ v, want float32 }{
+		{0, 0}, {minusZero, minusZero}, {1, 1}, {2, 1.4142135}, {3, 1.7320508}, {25, 5}, {0x1p40, 0x1p20}, {0x1p-148, 0x1p-74}, {math.MaxFloat32, 1.8446743e19},
+	} {
+		wantSingle(t, "Root", field.Root(s.v), api.OK, s.want)
+	}
+	n := &numbers{state: 20}
+	for range 10000 {
+		v := n.height()
+		if v < 0 {
+			v = -v
+		}
+		r := float64(field.Root(v))
+		low, high := float64(math.Nextafter32(float32(r), -1)), float64(math.Nextafter32(float32(r), inf))
+		if r < 0 || r > 0 && (r+low)*(r+low)/4 > float64(v) || (r+high)*(r+high)/4 < float64(v) {
+			t.Errorf("Root of %v is %v", v, r)
+		}
+	}
+}
+
+// P2: Has takes any place.
+func TestHas(t *testing.T) {
+	r := region(-2, 3, 4, 2)
+	for y := -1; y < 7; y++ {
+		for x := -5; x < 5; x++ {
+			if field.Has(r, x, y) != covers(r, x, y) {
+				t.Error("Has", x, y)
+			}
+		}
+	}
+	for _, far := range []int{math.MaxInt, math.MinInt, 1 << 32, -1 + 1<<33} {
+		if field.Has(r, far, 3) || field.Has(r, 0, far) || field.Has(r, far, far) {
+			t.Error("Has", far)
+		}
+	}
+}
+
 // G6: Floor keeps the signs of zeros.
 func TestFloor(t *testing.T) {
 	for _, s := range []struct{ v, want float32 }{

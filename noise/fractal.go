@@ -60,7 +60,7 @@ func Fractal(f api.Fractal, x, y int) (float32, api.Errno) {
 	if e := CheckFractal(f); e != api.OK {
 		return 0, e
 	}
-	if e := checkPlace(x, y); e != api.OK {
+	if e := CheckPlace(x, y); e != api.OK {
 		return 0, e
 	}
 	return fractal(f, x, y), api.OK

@@ -31,7 +31,7 @@ func (p spot) blend(corner func(k, l int) float32) float32 {
 }
 
 func checkLattice(x, y, cell int) api.Errno {
-	if e := checkPlace(x, y); e != api.OK {
+	if e := CheckPlace(x, y); e != api.OK {
 		return e
 	}
 	if !field.Within(cell, 1, api.MaxLattice) {
@@ -115,8 +115,7 @@ func square(a, b api.Point) int {
 	return dx*dx + dy*dy
 }
 
-// inCells gives the distance of a square as a multiple of the spacing. The root of a single is right as a single, too, when it is rounded a second time.
+// inCells gives the distance of a square as a multiple of the spacing.
 func inCells(square, cell int) float32 {
-	root := math.Sqrt(float64(float32(square)))
-	return float32(root) / float32(cell)
+	return field.Root(float32(square)) / float32(cell)
 }

@@ -152,6 +152,20 @@ func TestCellsAtCentres(t *testing.T) {
 	}
 }
 
+// P27: which places there are.
+func TestCheckPlace(t *testing.T) {
+	for _, p := range badPlaces() {
+		if e := noise.CheckPlace(p.X, p.Y); e != api.ErrPlace {
+			t.Error("CheckPlace", p, e)
+		}
+	}
+	for _, x := range []int{0, api.MaxPlace, -api.MaxPlace} {
+		if e := noise.CheckPlace(x, -x); e != api.OK {
+			t.Error("CheckPlace", x, e)
+		}
+	}
+}
+
 // P27, P28: the errors of the functions with places and spacings, and their order.
 func TestLatticeErrors(t *testing.T) {
 	for _, p := range badPlaces() {

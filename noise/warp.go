@@ -18,7 +18,7 @@ func Warp(w api.Warp, x, y int) (api.Point, api.Errno) {
 	if e := CheckWarp(w); e != api.OK {
 		return api.Point{}, e
 	}
-	if e := checkPlace(x, y); e != api.OK {
+	if e := CheckPlace(x, y); e != api.OK {
 		return api.Point{}, e
 	}
 	return warp(w, x, y), api.OK
@@ -52,7 +52,7 @@ func Warped(f api.Field, w api.Warp, r api.Region) (api.Field, api.Errno) {
 	missing := false
 	g, e := field.Make(r, func(x, y int) float32 {
 		p := warp(w, x, y)
-		if !isIn(f.Region, p) {
+		if !field.Has(f.Region, p.X, p.Y) {
 			missing = true
 			return 0
 		}
@@ -62,8 +62,4 @@ func Warped(f api.Field, w api.Warp, r api.Region) (api.Field, api.Errno) {
 		return api.Field{}, api.ErrPlace
 	}
 	return g, e
-}
-
-func isIn(r api.Region, p api.Point) bool {
-	return field.Within(p.X, r.X, r.X+r.W-1) && field.Within(p.Y, r.Y, r.Y+r.H-1)
 }
