@@ -34,28 +34,13 @@ func operation(op int) (func(a, b float32) float32, bool) {
 	case api.OpDiv:
 		return func(a, b float32) float32 { return a / b }, true
 	case api.OpLess:
-		return lesser, true
+		return Lesser, true
 	case api.OpMore:
-		return greater, true
+		return Greater, true
 	case api.OpOver:
 		return over, true
 	}
 	return nil, false
-}
-
-// lesser and greater give the first one of two zeros, which min and max of Go do not.
-func lesser(a, b float32) float32 {
-	if b < a {
-		return b
-	}
-	return a
-}
-
-func greater(a, b float32) float32 {
-	if b > a {
-		return b
-	}
-	return a
 }
 
 func over(a, b float32) float32 {
@@ -87,7 +72,7 @@ func Clamp(f api.Field, low, high float32) (api.Field, api.Errno) {
 	if low > high {
 		return api.Field{}, api.ErrOrder
 	}
-	return byCell(f.Region, func(i int) float32 { return lesser(greater(f.V[i], low), high) })
+	return byCell(f.Region, func(i int) float32 { return Lesser(Greater(f.V[i], low), high) })
 }
 
 // Blend is described in doc/01-field.md, P4.

@@ -68,7 +68,7 @@ func Range(f api.Field) (low, high float32, e api.Errno) {
 	}
 	low, high = f.V[0], f.V[0]
 	for _, v := range f.V[1:] {
-		low, high = lesser(low, v), greater(high, v)
+		low, high = Lesser(low, v), Greater(high, v)
 	}
 	return low, high, api.OK
 }

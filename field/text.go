@@ -113,9 +113,8 @@ func parseHead(line string) (api.Region, bool) {
 	}
 	var numbers [4]int
 	for i, word := range words[1:] {
-		n, err := strconv.Atoi(word)
-		// Atoi also takes a plus, superfluous zeros and -0, which are not written back.
-		if err != nil || strconv.Itoa(n) != word {
+		n, right := Integer(word)
+		if !right {
 			return api.Region{}, false
 		}
 		numbers[i] = n

@@ -2,6 +2,7 @@ package field
 
 import (
 	"math"
+	"strconv"
 
 	"tarnfell/api"
 )
@@ -50,6 +51,32 @@ func Divide(a, b int) (quotient int, share float32) {
 
 // Mix does not give b for the share 1 where the difference is rounded; the document wants it so.
 func Mix(a, b, share float32) float32 { return a + float32((b-a)*share) }
+
+// Lesser gives the first one of two zeros, which min of Go does not.
+func Lesser(a, b float32) float32 {
+	if b < a {
+		return b
+	}
+	return a
+}
+
+// Greater gives the first one of two zeros, which max of Go does not.
+func Greater(a, b float32) float32 {
+	if b > a {
+		return b
+	}
+	return a
+}
+
+// Integer reads an int without superfluous zeros, and reports whether the text is one.
+func Integer(text string) (int, bool) {
+	n, err := strconv.Atoi(text)
+	// Atoi also takes a plus, superfluous zeros and -0, which are not written back.
+	if err != nil || strconv.Itoa(n) != text {
+		return 0, false
+	}
+	return n, true
+}
 
 // Index tells where the value of the cell (x, y) of a region is.
 func Index(r api.Region, x, y int) int { return (y-r.Y)*r.W + x - r.X }

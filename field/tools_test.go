@@ -2,6 +2,7 @@ package field_test
 
 import (
 	"math"
+	"strconv"
 	"testing"
 
 	"tarnfell/api"
@@ -75,6 +76,31 @@ func TestHas(t *testing.T) {
 	for _, far := range []int{math.MaxInt, math.MinInt, 1 << 32, -1 + 1<<33} {
 		if field.Has(r, far, 3) || field.Has(r, 0, far) || field.Has(r, far, far) {
 			t.Error("Has", far)
+		}
+	}
+}
+
+// G6: Lesser and Greater give the first one of two equal values.
+func TestLesserAndGreater(t *testing.T) {
+	for _, s := range []struct{ a, b, less, more float32 }{
+		{1, 2, 1, 2}, {2, 1, 1, 2}, {-top, tiny, -top, tiny}, {-inf, inf, -inf, inf}, {3, 3, 3, 3},
+		{0, minusZero, 0, 0}, {minusZero, 0, minusZero, minusZero}, {minusZero, tiny, minusZero, tiny}, {0, -tiny, -tiny, 0},
+	} {
+		wantSingle(t, "Lesser", field.Lesser(s.a, s.b), api.OK, s.less)
+		wantSingle(t, "Greater", field.Greater(s.a, s.b), api.OK, s.more)
+	}
+}
+
+// P10: Integer takes what an int is written as, and nothing else.
+func TestInteger(t *testing.T) {
+	for _, n := range []int{0, 1, -1, 10, -90, math.MaxInt, math.MinInt} {
+		if got, right := field.Integer(strconv.Itoa(n)); got != n || !right {
+			t.Error("Integer", n, got, right)
+		}
+	}
+	for _, text := range []string{"", "-", "+1", "-0", "00", "01", "-01", "1 ", " 1", "1.0", "1e1", "0x1", "1_0", "a", "9223372036854775808", "-9223372036854775809"} {
+		if got, right := field.Integer(text); got != 0 || right {
+			t.Error("Integer", text, got, right)
 		}
 	}
 }
