@@ -27,7 +27,7 @@ func steep(f api.Field) []int {
 func steepest(f api.Field, i int) (int, float32) {
 	way, most := none, float32(0)
 	for d, n := range neighbours(f.Region, i) {
-		if drop := (f.V[i] - f.V[n]) / length(d); drop > most {
+		if drop := (f.V[i] - f.V[n]) / Length(d); drop > most {
 			way, most = d, drop
 		}
 	}

@@ -41,7 +41,7 @@ func targets(r api.Region, dirs []int) ([]int, api.Errno) {
 		if d == none {
 			continue
 		}
-		n, inside := beside(r, place(r, i), d)
+		n, inside := beside(r, Place(r, i), d)
 		if !inside {
 			return nil, api.ErrPlace
 		}
@@ -102,7 +102,7 @@ func Next(r api.Region, dirs []int, p api.Point) (api.Point, bool, api.Errno) {
 	if n == none {
 		return api.Point{}, false, api.OK
 	}
-	return place(r, n), true, api.OK
+	return Place(r, n), true, api.OK
 }
 
 // Gather is described in doc/04-water.md, P74.
@@ -138,7 +138,7 @@ func Basins(r api.Region, dirs []int) ([]int, []api.Point, api.Errno) {
 	for i, n := range l.to {
 		if n == none {
 			numbers[i] = len(mouths)
-			mouths = append(mouths, place(r, i))
+			mouths = append(mouths, Place(r, i))
 		}
 	}
 	l.upwards(func(i, n int) { numbers[i] = numbers[n] })
@@ -152,7 +152,7 @@ func Far(r api.Region, dirs []int) ([]float32, api.Errno) {
 		return nil, e
 	}
 	far := make([]float32, len(l.to))
-	l.upwards(func(i, n int) { far[i] = length(dirs[i]) + far[n] })
+	l.upwards(func(i, n int) { far[i] = Length(dirs[i]) + far[n] })
 	return far, api.OK
 }
 

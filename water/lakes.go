@@ -54,7 +54,7 @@ func describe(f, w api.Field, numbers []int) []api.Lake {
 		if k == none {
 			continue
 		}
-		p, deep := place(f.Region, i), w.V[i]-f.V[i]
+		p, deep := Place(f.Region, i), w.V[i]-f.V[i]
 		if k == len(lakes) {
 			lakes = append(lakes, api.Lake{Level: w.V[i], Depth: deep, Deepest: p, First: p})
 		}
@@ -82,7 +82,7 @@ func Shore(f api.Field, k int) ([]api.Point, api.Errno) {
 	var shore []api.Point
 	for i, number := range numbers {
 		if number != k && touches(f.Region, numbers, i, k) {
-			shore = append(shore, place(f.Region, i))
+			shore = append(shore, Place(f.Region, i))
 		}
 	}
 	return shore, api.OK

@@ -111,7 +111,7 @@ func (s streams) rank(rivers []api.River) {
 func places(r api.Region, cells []int) []api.Point {
 	l := make([]api.Point, 0, len(cells))
 	for _, i := range cells {
-		l = append(l, place(r, i))
+		l = append(l, Place(r, i))
 	}
 	return l
 }

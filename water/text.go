@@ -64,7 +64,7 @@ func checkRiver(v api.River, many int) api.Errno {
 // direction gives that of the step from a place to another one, or none.
 func direction(from, to api.Point) int {
 	for d := range directions {
-		if onward(from, d) == to {
+		if Onward(from, d, 1) == to {
 			return d
 		}
 	}
@@ -134,7 +134,7 @@ func follow(p api.Point, dirs string) ([]api.Point, bool) {
 		if dirs[i] < '0' || dirs[i] > '7' {
 			return nil, false
 		}
-		p = onward(p, int(dirs[i]-'0'))
+		p = Onward(p, int(dirs[i]-'0'), 1)
 		points = append(points, p)
 	}
 	return points, dirs != ""

@@ -118,7 +118,7 @@ func Shower(r api.Region, seed uint32, most int) ([]int, api.Errno) {
 	}
 	rain := make([]int, r.W*r.H)
 	for i := range rain {
-		p := place(r, i)
+		p := Place(r, i)
 		rain[i] = int(noise.Hash(seed, p.X, p.Y, forRain) % uint32(most+1))
 	}
 	return rain, api.OK
