@@ -82,7 +82,7 @@ func cells(seed uint32, x, y, cell int) (near, next float32, at api.Point) {
 	place := api.Point{X: x, Y: y}
 	first, second := math.MaxInt, math.MaxInt
 	for _, c := range centresAround(seed, x, y, cell) {
-		d := square(place, c)
+		d := Square(place, c)
 		switch {
 		case d < first:
 			first, second, at = d, first, c
@@ -109,8 +109,8 @@ func centre(seed uint32, i, j, cell int) api.Point {
 	return api.Point{X: i*cell + int(a), Y: j*cell + int(b)}
 }
 
-// square is that of the distance.
-func square(a, b api.Point) int {
+// Square is that of the distance of two places. It is no part of doc/02-noise.md: later chapters need it as this one does.
+func Square(a, b api.Point) int {
 	dx, dy := a.X-b.X, a.Y-b.Y
 	return dx*dx + dy*dy
 }

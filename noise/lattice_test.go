@@ -192,3 +192,18 @@ func wantNoLattice(t *testing.T, p api.Point, cell int, want api.Errno) {
 		t.Error("Cells", at)
 	}
 }
+
+// What later chapters need of this one: the square of a distance, that of the greatest one too.
+func TestSquare(t *testing.T) {
+	for _, s := range []struct {
+		a, b api.Point
+		want int
+	}{
+		{api.Point{}, api.Point{}, 0}, {api.Point{X: 3}, api.Point{Y: 4}, 25}, {api.Point{X: -7, Y: 2}, api.Point{X: 5, Y: -3}, 169},
+		{api.Point{X: -api.MaxPlace, Y: api.MaxPlace}, api.Point{X: api.MaxPlace, Y: -api.MaxPlace}, 1 << 47},
+	} {
+		if n, m := noise.Square(s.a, s.b), noise.Square(s.b, s.a); n != s.want || m != s.want {
+			t.Error("Square", s.a, s.b, n, m)
+		}
+	}
+}

@@ -53,7 +53,7 @@ func isChosen(s api.Scatter, place api.Point) bool {
 	for j := p.j - 2; j <= p.j+2; j++ {
 		for i := p.i - 2; i <= p.i+2; i++ {
 			other := candidateOf(s, i, j)
-			if other.there && square(own.at, other.at) <= s.Apart*s.Apart && other.comesBefore(own) {
+			if other.there && Square(own.at, other.at) <= s.Apart*s.Apart && other.comesBefore(own) {
 				return false
 			}
 		}

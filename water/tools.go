@@ -28,3 +28,14 @@ func Length(d int) float32 {
 
 // Place is that of the cell number i of a region.
 func Place(r api.Region, i int) api.Point { return api.Point{X: r.X + i%r.W, Y: r.Y + i/r.W} }
+
+// Roughness is the greatest difference of the cell number i and those in the four main directions. It need be no height.
+func Roughness(f api.Field, i int) float32 {
+	var most float32
+	for d, n := range neighbours(f.Region, i) {
+		if d%2 == 0 {
+			most = max(most, f.V[i]-f.V[n], f.V[n]-f.V[i])
+		}
+	}
+	return most
+}

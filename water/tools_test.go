@@ -33,3 +33,24 @@ func TestDirections(t *testing.T) {
 		}
 	}
 }
+
+// What later chapters need of this one: how much a cell differs from those beside it, also where that is no height.
+func TestRoughness(t *testing.T) {
+	f := of(-4, 7, 3, 3,
+		90, 2, -90,
+		5, 1, 1.5,
+		-80, -3, 70)
+	for i, want := range []float32{88, 92, 92, 85, 4, 91.5, 85, 77, 73} {
+		if v := water.Roughness(f, i); !sameBits(v, want) {
+			t.Error("Roughness", i, v)
+		}
+	}
+	for _, f := range []api.Field{row(minusZero), row(0, minusZero), row(minusZero, 0), row(minusZero, minusZero)} {
+		if v := water.Roughness(f, len(f.V)-1); !sameBits(v, 0) {
+			t.Error("Roughness", f, v)
+		}
+	}
+	if v := water.Roughness(row(top, -top), 0); v != 2*top {
+		t.Error("Roughness", v)
+	}
+}

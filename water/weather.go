@@ -54,22 +54,11 @@ func snowAt(f api.Field, s api.Snow, i int) float32 {
 	if d <= 0 {
 		return 0
 	}
-	slant := roughness(f, i)
+	slant := Roughness(f, i)
 	if slant >= s.Hold {
 		return 0
 	}
 	return float32(field.Lesser(d, s.Most) * (1 - slant/s.Hold))
-}
-
-// roughness is the greatest difference of a cell and those in the four main directions.
-func roughness(f api.Field, i int) float32 {
-	var most float32
-	for d, n := range neighbours(f.Region, i) {
-		if d%2 == 0 {
-			most = max(most, f.V[i]-f.V[n], f.V[n]-f.V[i])
-		}
-	}
-	return most
 }
 
 // Melt is described in doc/04-water.md, P85.
