@@ -36,6 +36,9 @@ func CheckHeights(values ...float32) api.Errno {
 // Floor is exact: the floor of a single is a single.
 func Floor(v float32) float32 { return float32(math.Floor(float64(v))) }
 
+// Magnitude is v without its sign.
+func Magnitude(v float32) float32 { return max(v, -v) }
+
 // Root is right as a single, although the root of the double is rounded a second time.
 func Root(v float32) float32 { return float32(math.Sqrt(float64(v))) }
 

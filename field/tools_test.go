@@ -114,6 +114,15 @@ func TestFloor(t *testing.T) {
 	}
 }
 
+// G6: Magnitude leaves no sign, also of zeros.
+func TestMagnitude(t *testing.T) {
+	for _, s := range []struct{ v, want float32 }{
+		{0, 0}, {minusZero, 0}, {1.5, 1.5}, {-1.5, 1.5}, {tiny, tiny}, {-tiny, tiny}, {-math.MaxFloat32, math.MaxFloat32}, {-inf, inf}, {inf, inf},
+	} {
+		wantSingle(t, "Magnitude", field.Magnitude(s.v), api.OK, s.want)
+	}
+}
+
 // P7: Divide rounds towards the lesser numbers.
 func TestDivide(t *testing.T) {
 	for b := 1; b < 9; b++ {

@@ -44,9 +44,9 @@ func (c cross) aspect() int {
 	switch {
 	case a == 0 && b == 0:
 		return flat
-	case magnitude(b)*2.5 <= magnitude(a):
+	case field.Magnitude(b)*2.5 <= field.Magnitude(a):
 		return choose(a > 0, east, west)
-	case magnitude(a)*2.5 <= magnitude(b):
+	case field.Magnitude(a)*2.5 <= field.Magnitude(b):
 		return choose(b > 0, south, north)
 	case b > 0:
 		return choose(a > 0, southEast, southWest)
@@ -122,10 +122,10 @@ func Steepest(f api.Field) (float32, api.Errno) {
 	var most float32
 	for i, v := range f.V {
 		if (i+1)%f.W != 0 {
-			most = max(most, magnitude(f.V[i+1]-v))
+			most = max(most, field.Magnitude(f.V[i+1]-v))
 		}
 		if i+f.W < len(f.V) {
-			most = max(most, magnitude(f.V[i+f.W]-v))
+			most = max(most, field.Magnitude(f.V[i+f.W]-v))
 		}
 	}
 	if most > api.MaxHeight {
