@@ -6,8 +6,8 @@ import (
 	"tarnfell/tile"
 )
 
-// maxPatchLevel is how often Down can halve the greatest tile.
-const maxPatchLevel = 6
+// maxPatchLevels is how many levels a tile has at most: it is itself the first one of them, with the number 0.
+const maxPatchLevels = 6
 
 // Patches is described in doc/09-level.md, P211.
 func Patches(f api.Field, side int, eye api.Eye) ([]api.Patch, api.Errno) {
@@ -50,7 +50,7 @@ func split(r api.Region, side int) (tiles []api.Region, wide int) {
 // levelFor gives the last level of a tile that loses no more than what may be lost for an eye.
 func levelFor(part api.Field, eye api.Eye) int {
 	last, most := 0, float32(distance(part, eye)*eye.Scale)
-	l, _ := levels(part, 1+maxPatchLevel)
+	l, _ := levels(part, maxPatchLevels)
 	for level, lost := range lossesOf(l) {
 		if lost <= most {
 			last = level

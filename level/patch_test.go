@@ -45,21 +45,21 @@ func TestPatches(t *testing.T) {
 			}
 		}
 	}
-	for k := 0; k <= 6; k++ {
+	for k := 0; k <= 5; k++ {
 		if many[k] == 0 {
 			t.Error("no patch of the level", k)
 		}
 	}
 }
 
-// P211: a tile has as many levels as Down can make of it: those of tiles at odd places, or cut by the edge of the field, are fewer.
+// P211, P206: a tile has as many levels as Down can make of it, itself among them, but at most 6, of which the last one has the number 5. Those of tiles at odd places, or cut by the edge of the field, are fewer.
 func TestLevelsOfPatches(t *testing.T) {
 	for _, s := range []struct {
 		r    api.Region
 		side int
 		want int
 	}{
-		{region(0, 0, 8, 8), 8, 3}, {region(16, -32, 16, 16), 16, 4}, {region(-32, 96, 32, 32), 32, 5}, {region(64, -64, 64, 64), 64, 6},
+		{region(0, 0, 8, 8), 8, 3}, {region(16, -32, 16, 16), 16, 4}, {region(-32, 96, 32, 32), 32, 5}, {region(64, -64, 64, 64), 64, 5}, {region(0, 0, 64, 64), 64, 5},
 		{region(0, 0, 8, 8), 64, 3}, {region(8, 8, 8, 8), 64, 3}, {region(4, 0, 4, 8), 8, 2}, {region(2, 2, 4, 4), 8, 1}, {region(1, 0, 4, 4), 8, 0}, {region(0, 0, 8, 7), 8, 0},
 		{region(32, 0, 32, 32), 64, 5}, {region(0, 0, 48, 48), 64, 4}, {region(0, 0, 64, 62), 64, 1},
 	} {
@@ -135,7 +135,7 @@ func TestLevelledPatches(t *testing.T) {
 	f.V[511], f.V[510] = 1000, -1000
 	l, e := level.Patches(f, 64, api.Eye{X: 512, Scale: 0.01})
 	wantError(t, "Patches", e, api.OK)
-	for i, want := range []int{6, 6, 5, 4, 3, 2, 1, 0} {
+	for i, want := range []int{5, 5, 5, 4, 3, 2, 1, 0} {
 		if i < len(l) && l[i].Level != want {
 			t.Error("Patches", i, l[i], want)
 		}

@@ -236,7 +236,7 @@ func distanceOf(part api.Field, eye api.Eye) float32 {
 // ownLevel is the level of a tile ahead of levelling.
 func ownLevel(part api.Field, eye api.Eye) int {
 	most, last := times(distanceOf(part, eye), eye.Scale), 0
-	for k, loss := range lossesOf(part, 1+halves(part.Region, 6)) {
+	for k, loss := range lossesOf(part, min(6, 1+halves(part.Region, 9))) {
 		if loss <= most {
 			last = k
 		}
