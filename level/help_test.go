@@ -320,6 +320,10 @@ func lookers() []looker {
 			s, is, n, e := level.HitBounds(f, nil, api.Ray{DX: pick(wrong, 1, nan)})
 			return is || n != 0 || s != api.Strike{}, e
 		}},
+		{"Hits", func(f api.Field, wrong bool) (bool, api.Errno) {
+			l, is, e := level.Hits(f, []api.Ray{{DX: pick(wrong, 1, nan)}})
+			return len(l) > 0 || len(is) > 0, e
+		}},
 		{"Sees", func(f api.Field, wrong bool) (bool, api.Errno) {
 			return level.Sees(f, at(0, 0), at(0, 0), pick(wrong, 1, nan))
 		}},

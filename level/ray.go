@@ -163,6 +163,26 @@ func HitBounds(f api.Field, b []api.Box, r api.Ray) (api.Strike, bool, int, api.
 	return s.best, s.found(), s.looked, api.OK
 }
 
+// Hits is no part of doc/09-level.md: package export needs it. It gives what Hit gives for each of several rays, of which the first bad one decides, and makes the boxes of the field only once.
+func Hits(f api.Field, rays []api.Ray) ([]api.Strike, []bool, api.Errno) {
+	if e := field.Check(f); e != api.OK {
+		return nil, nil, e
+	}
+	for _, r := range rays {
+		if e := CheckRay(r); e != api.OK {
+			return nil, nil, e
+		}
+	}
+	strikes, struck := make([]api.Strike, len(rays)), make([]bool, len(rays))
+	b := boundsOf(f)
+	for i, r := range rays {
+		s := search{f: f, ray: r, number: none}
+		s.look(b, b[len(b)-1])
+		strikes[i], struck[i] = s.best, s.found()
+	}
+	return strikes, struck, api.OK
+}
+
 // look goes through a box of the list b and its parts.
 func (s *search) look(b []api.Box, box api.Box) {
 	in, there := stayIn(s.ray, cellsOf(s.f.Region, box.Level, box.X, box.Y))

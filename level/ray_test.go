@@ -149,6 +149,10 @@ func wantRay(t *testing.T, f api.Field, r api.Ray) bool {
 	if n > len(f.V) {
 		t.Error("HitBounds looks at too many cells", n)
 	}
+	l, hits, e := level.Hits(f, []api.Ray{r})
+	if len(l) != 1 || !sameStrike(l[0], want) || !slices.Equal(hits, []bool{some}) || e != api.OK {
+		t.Errorf("Hits of %v: %v, %v, error %d; want %v, %v", r, l, hits, e, want, some)
+	}
 	return some
 }
 
@@ -180,6 +184,38 @@ func (n *numbers) ray(r api.Region, most float32) api.Ray {
 		v.DX = 1
 	}
 	return v
+}
+
+// P213: what Hits finds with many rays is what Hit finds with each of them; the first bad one decides.
+func TestManyRays(t *testing.T) {
+	n := &numbers{state: 34}
+	for _, r := range []api.Region{region(0, 0, 9, 7), region(-5, -3, 12, 8), region(3, -6, 1, 10), region(-20, 7, 16, 1), region(0, 0, 1, 1)} {
+		f := n.field(r, n.single)
+		var rays []api.Ray
+		for range 50 {
+			rays = append(rays, n.ray(r, 1))
+		}
+		l, is, e := level.Hits(f, rays)
+		if len(l) != len(rays) || len(is) != len(rays) || e != api.OK {
+			t.Error("Hits", len(l), len(is), e)
+			continue
+		}
+		for i, r := range rays {
+			if s, some, _ := level.Hit(f, r); !sameStrike(l[i], s) || is[i] != some {
+				t.Errorf("Hits of the ray %d, %v: %v, %v; want %v, %v", i, r, l[i], is[i], s, some)
+			}
+		}
+	}
+	for _, rays := range [][]api.Ray{nil, {}} {
+		l, is, e := level.Hits(row(1), rays)
+		wantNothing(t, "Hits", len(l) > 0 || len(is) > 0, e, api.OK)
+	}
+	for _, s := range badRays() {
+		for _, rays := range [][]api.Ray{{s.r}, {{DX: 1}, s.r}, {s.r, {}}, {{DX: 1, Most: 1}, s.r, {X: nan}, {}}} {
+			l, is, e := level.Hits(row(1), rays)
+			wantNothing(t, "Hits", len(l) > 0 || len(is) > 0, e, s.want)
+		}
+	}
 }
 
 // P213, P287, G6: what is found by bounds is what is found by looking at all cells, to the bit.
