@@ -9,6 +9,7 @@ import (
 
 	"tarnfell/api"
 	"tarnfell/export"
+	"tarnfell/shape"
 )
 
 func wantGray(t *testing.T, f api.Field, low, high float32) {
@@ -104,14 +105,14 @@ func TestReadGrayErrors(t *testing.T) {
 		}
 	}
 	for _, text := range []string{
-		"", "\n", "P2", "P2\n", "P2\n1 1\n", "P2\n1 1\n255\n", "P2\n1 1\n255\n7", "P2\n1 1\n255\n7\n\n", "P2\n1 1\n255\n7\n7\n", "P2\n1 1\n255\n7\nx", "P2\n1 1\n255\n7 7\n", "P2\n1 1\n255\n\n", "P2\n1 1\n255\n7 \n", "P2\n1 1\n255\n 7\n",
+		"", "\n", "P2", "P2\n", "1 1\n255\n7\n", "\n1 1\n255\n7\n", "P2\n1 1\n", "P2\n1 1\n255\n", "P2\n1 1\n255\n7", "P2\n1 1\n255\n7\n\n", "P2\n1 1\n255\n7\n7\n", "P2\n1 1\n255\n7\nx", "P2\n1 1\n255\n7 7\n", "P2\n1 1\n255\n\n", "P2\n1 1\n255\n7 \n", "P2\n1 1\n255\n 7\n",
 		"P3\n1 1\n255\n7\n", "p2\n1 1\n255\n7\n", "P2 \n1 1\n255\n7\n", " P2\n1 1\n255\n7\n", "\nP2\n1 1\n255\n7\n", "P2\r\n1 1\n255\n7\n", "P2 1 1 255 7\n", "P2\n# x\n1 1\n255\n7\n", "P2\n1 1 255\n7\n", "P2\n\n1 1\n255\n7\n",
 		"P2\n1 1\n254\n7\n", "P2\n1 1\n256\n7\n", "P2\n1 1\n0255\n7\n", "P2\n1 1\n255 \n7\n", "P2\n1 1\n65535\n7\n", "P2\n1 1\n\n7\n", "P2\n1 1\n0\n0\n",
 		"P2\n1  1\n255\n7\n", "P2\n01 1\n255\n7\n", "P2\n1 +1\n255\n7\n", "P2\n1\n255\n7\n", "P2\n1 1 1\n255\n7\n", "P2\n-1 1\n255\n7\n", "P2\n0 1\n255\n\n", "P2\n1 0\n255\n", "P2\n513 1\n255\n" + strings.Repeat("0 ", 512) + "0\n", "P2\n1 513\n255\n" + strings.Repeat("0\n", 513),
 		"P2\n512 129\n255\n" + strings.Repeat(strings.Repeat("0 ", 511)+"0\n", 129), "P2\n99999999999999999999 1\n255\n7\n", "P2\n4294967297 1\n255\n7\n",
 		"P2\n1 1\n255\n256\n", "P2\n1 1\n255\n-1\n", "P2\n1 1\n255\n-0\n", "P2\n1 1\n255\n07\n", "P2\n1 1\n255\n7.0\n", "P2\n1 1\n255\nx\n", "P2\n1 1\n255\n+7\n", "P2\n1 1\n255\n99999999999999999999\n", "P2\n1 1\n255\n4294967296\n",
 		"P2\n2 2\n255\n1 2\n3\n", "P2\n2 2\n255\n1 2\n3 4 5\n", "P2\n2 2\n255\n1 2 3 4\n", "P2\n2 2\n255\n1\n2\n3\n4\n", "P2\n2 2\n255\n1 2\n3 4", "P2\n2 2\n255\n1  2\n3 4\n", "P2\n2 2\n255\n1\t2\n3 4\n", "P2\n2 1\n255\n1 2\n3 4\n", "P2\n2 2\n255\n1 2\n", "P2\n2 2\n255\n1 2\n\n3 4\n", "P2\n2 2\n255\n1 2\n3 256\n",
-		"P2\n1 1\n255\n" + strings.Repeat(" ", api.MaxText-20), strings.Repeat("P2\n", api.MaxText/3),
+		"P2\n1 1\n255\n" + strings.Repeat(" ", api.MaxText-20), strings.Repeat("P2\n", api.MaxText/3), strings.Repeat("\n", api.MaxText),
 	} {
 		wantBad(text, api.ErrSyntax)
 	}
@@ -172,6 +173,25 @@ func TestColor(t *testing.T) {
 	}
 	c, e := export.Color([]api.Tint{{At: 5, Red: 1, Green: 2, Blue: 3}}, 7)
 	wantInt(t, "Color", c, e, 1<<16+2<<8+3)
+}
+
+// P237: beside the places at which one color becomes the next one each rounding counts.
+func TestColorsAtSteps(t *testing.T) {
+	n := &numbers{state: 43}
+	for range 60 {
+		a := api.Tint{At: n.single() * 9, Red: n.between(0, 255), Green: 255}
+		b := api.Tint{At: a.At + size(n.single())*9 + 0.1, Red: n.between(0, 255), Blue: 255}
+		for k := range 256 {
+			v := a.At + (b.At-a.At)*(float32(k)-0.5)/255
+			for range 8 {
+				v = before(v)
+			}
+			for range 17 {
+				wantColor(t, []api.Tint{a, b}, v)
+				v = after(v)
+			}
+		}
+	}
 }
 
 // badPalette is a palette with what is said of it.
@@ -262,6 +282,31 @@ func TestPicture(t *testing.T) {
 	// A slope that faces the light is as bright as it can be.
 	text, e = export.Picture(f, []api.Tint{{Red: 255, Green: 254, Blue: 1}}, [3]int{-1, 0, 1})
 	wantText(t, "Picture", text, e, "P3\n1 1\n255\n255 254 1\n")
+}
+
+// P238: colors that are dimmed to nearly halves are rounded as the others.
+func TestDimmedColors(t *testing.T) {
+	n := &numbers{state: 44}
+	f := of(0, 0, 3, 3, 0, 0.5, 0, 0.25, 1, 2, 0, 3, 0)
+	near := 0
+	for range 40000 {
+		light := [3]int{n.between(-1000, 1000), n.between(-1000, 1000), n.between(1, 1000)}
+		lit, e := shape.Shade(f, light[0], light[1], light[2])
+		wantError(t, "Shade", e, api.OK)
+		for c := 1; c < 256; c++ {
+			dim := float64(c) * float64(lit.V[0])
+			if off := dim - math.Floor(dim) - 0.5; math.Abs(off) > 2e-5 {
+				continue
+			}
+			near++
+			p := []api.Tint{{Red: c, Green: 255 - c, Blue: c}}
+			text, e := export.Picture(f, p, light)
+			wantText(t, "Picture", text, e, pictureOf(f, p, light))
+		}
+	}
+	if near < 50 {
+		t.Error("too few colors are nearly halves:", near)
+	}
 }
 
 // P238: the errors of light.

@@ -109,7 +109,7 @@ func TestSessionErrors(t *testing.T) {
 	for _, c := range [][2]string{
 		{"eval 0 0 0 0/eval 0 0 x 0/eval 0 0 1", "error 13/error 9/error 9"},
 		{"fill 1048577/fill 1e999/fill -1/fill 1024.1/fill x", "error 3/error 3/error 3/error 3/error 9"},
-		{"camera 1e9 0 0 0 0 0 x/camera 1e9 0 0 0 0 0 0/camera 0 0 0 0 0 0 1/camera 0 0 0 1 0 0 1025/camera 0 0 0 1 0 0 0/camera 0 0 0 0.0009765625 0 0 0.0009765625", "error 9/error 3/error 3/error 3/error 3"},
+		{"camera x 0 0 0 0 0 1e9/camera 1e9 x 0 0 0 0 1e9/camera 1e9 0 0 0 0 0 x/camera 1e9 0 0 0 0 0 0/camera 0 0 0 0 0 0 1/camera 0 0 0 1 0 0 1025/camera 0 0 0 1 0 0 0/camera 0 0 0 0.0009765625 0 0 0.0009765625", "error 9/error 9/error 9/error 3/error 3/error 3/error 3"},
 		{"camera 0.5 0.5 0.5 1 0 -1 1/hit/camera 0 0 0 0 0 0 1/hit/camera 1e9 0 0 1 0 0 1/hit", "0 0 0.5/error 3/0 0 0.5/error 3/0 0 0.5"},
 		{"scale 1e9 1 x/scale 0 0 8/scale 0 1 0/scale 0 1 25/scale 1e9 1 8/scale 0 1e9 99", "error 9/error 3/error 3/error 3/error 3/error 3"},
 		{"scale 5 1 8/loss 4/scale 0 0 8/loss 4/scale -1 0.25 2/loss 4", "error 3/error 3/error 3/error 3"},
